@@ -1,0 +1,1 @@
+"""Notebooks: cells that hang on one another, run again just where they must be."""
