@@ -3,7 +3,10 @@
 from rerun.calls import read_call
 from rerun.cells import Book
 from rerun.changes import drop, put, touch
-from rerun.questions import find_place, tell_state
+from rerun.loading import load
+from rerun.questions import find_place, tell_counts, tell_leans, tell_state, tell_text, tell_users, tell_value
+from rerun.reasons import tell_why
+from rerun.saving import save
 from rerun.settling import came, came_failed, settle, tell_next
 
 CAME_VALUE = 0
@@ -36,6 +39,22 @@ def answer_call(book, call):
         return find_place(book, call.texts[0])
     if call.number == 8:
         return tell_state(book, call.numbers[0])
+    if call.number == 9:
+        return tell_value(book, call.numbers[0])
+    if call.number == 10:
+        return tell_text(book, call.numbers[0])
+    if call.number == 11:
+        return tell_leans(book, call.numbers[0])
+    if call.number == 12:
+        return tell_users(book, call.numbers[0])
+    if call.number == 13:
+        return tell_why(book, call.numbers[0])
+    if call.number == 14:
+        return tell_counts(book)
+    if call.number == 15:
+        return save(book)
+    if call.number == 16:
+        return load(book, call.texts[0])
     raise UnknownCall("no call has this number")
 
 

@@ -40,6 +40,11 @@ class Book:
         self.allowed = 0
 
 
+# All cells that there are, by rising places.
+def cells_of(book):
+    return [cell for cell in book.cells if cell is not None]
+
+
 # The lowest place that no cell has; None if all are taken.
 def lowest_free_place(book):
     for place in range(MOST_CELLS):
@@ -56,31 +61,3 @@ def add_cell(book, cell):
 def remove_cell(book, cell):
     book.cells[cell.place] = None
     book.named.pop(cell.name)
-
-
-# For each name that is leaned on, the names of the cells that lean on it.
-def users_by_name(book):
-    users = {}
-    for cell in book.cells:
-        if cell is not None:
-            for lean in cell.leans:
-                users.setdefault(lean, []).append(cell.name)
-    return users
-
-
-# Opens a name: its cell, all cells that lean on it, all that lean on those, and so on.
-def reopen(book, name):
-    users = users_by_name(book)
-    reached = [name]
-    seen = {name: True}
-    at = 0
-    while at < len(reached):
-        cell = book.named.get(reached[at])
-        # A dropped name has no cell, but those that lean on it must be opened all the same.
-        if cell is not None:
-            cell.stands = OPEN
-        for user in users.get(reached[at], []):
-            if user not in seen:
-                seen[user] = True
-                reached.append(user)
-        at += 1

@@ -1,8 +1,18 @@
 """The calls that change which cells there are and what they say: put, drop, touch."""
 
-from rerun.cells import Cell, add_cell, lowest_free_place, remove_cell, reopen
+from rerun.cells import Cell, add_cell, lowest_free_place, remove_cell
+from rerun.leaning import names_above
 from rerun.names import are_names, is_name
-from rerun.signs import ALL_TAKEN, MALFORMED, MOST_LEANS, MOST_TEXT, NO_SUCH_CELL, WRONG_TIME
+from rerun.signs import ALL_TAKEN, MALFORMED, MOST_LEANS, MOST_TEXT, NO_SUCH_CELL, OPEN, WRONG_TIME
+
+
+# Opens a name: its cell, all cells that lean on it, all that lean on those, and so on.
+def reopen(book, name):
+    for reached in names_above(book, [name]):
+        cell = book.named.get(reached)
+        # A dropped name has no cell, but those that lean on it must be opened all the same.
+        if cell is not None:
+            cell.stands = OPEN
 
 
 def can_be_put(name, text, leans):

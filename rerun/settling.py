@@ -1,6 +1,7 @@
 """Settling: which step is next, and the calls settle, came and next."""
 
-from rerun.cells import Run
+from rerun.cells import Run, cells_of
+from rerun.leaning import are_good, is_any_open, sources_of, values_of, was_run_as_it_is
 from rerun.signs import BAD, GOOD, MALFORMED, MOST_NUMBER, MOST_VALUE, OPEN, STUCK, WRONG_TIME
 
 ENDED = 0
@@ -20,52 +21,20 @@ class Step:
         self.cell = cell
 
 
-# The cells on which a cell leans, in order; None for a name that has no cell.
-def sources_of(book, cell):
-    return [book.named.get(lean) for lean in cell.leans]
-
-
 # By place. Looked up once a call, as no name gains or loses its cell while a settling goes on.
 def sources_of_open_cells(book):
     sources = {}
-    for cell in book.cells:
-        if cell is not None and cell.stands == OPEN:
+    for cell in cells_of(book):
+        if cell.stands == OPEN:
             sources[cell.place] = sources_of(book, cell)
     return sources
 
 
-# Whether an open cell with these sources can be taken.
-def is_ready(sources):
-    for source in sources:
-        if source is not None and source.stands == OPEN:
-            return False
-    return True
-
-
-def are_good(sources):
-    for source in sources:
-        if source is None or source.stands != GOOD:
-            return False
-    return True
-
-
-def values_of(sources):
-    return tuple([source.last.value for source in sources])
-
-
-# Whether the cell's last run had the text and the names that it has now, and these values.
-def was_run_so(cell, given):
-    last = cell.last
-    if last is None:
-        return False
-    return last.text == cell.text and last.leans == cell.leans and last.given == given
-
-
-# Whether taking the cell, which is ready, means running it.
+# Whether taking the cell, which can be taken, means running it.
 def must_run(cell, sources):
     if not are_good(sources):
         return False
-    return cell.touched or not was_run_so(cell, values_of(sources))
+    return cell.touched or not was_run_as_it_is(cell) or cell.last.given != values_of(sources)
 
 
 def next_step(book, sources):
@@ -73,7 +42,7 @@ def next_step(book, sources):
     for cell in book.cells:
         if cell is not None and cell.stands == OPEN:
             any_open = True
-            if is_ready(sources[cell.place]):
+            if not is_any_open(sources[cell.place]):
                 choice = MUST_RUN if must_run(cell, sources[cell.place]) else WITHOUT_RUN
                 return Step(choice, cell)
     return Step(NONE_READY if any_open else NONE_OPEN, None)
@@ -92,7 +61,7 @@ def take_without_run(cell, sources):
 
 # All open cells become stuck; gives them back by rising places.
 def stick_open_cells(book):
-    stuck = [cell for cell in book.cells if cell is not None and cell.stands == OPEN]
+    stuck = [cell for cell in cells_of(book) if cell.stands == OPEN]
     for cell in stuck:
         cell.stands = STUCK
     return stuck

@@ -6,13 +6,17 @@ import sys
 import unittest
 
 from helper import (
-    GOOD, STUCK, ask_next, came, drop, failed, find, last, put, run, settle, split, state, told, touch,
+    GOOD, STUCK, ask_next, book, came, cell, counts, drop, failed, find, last, leans_of, load, put, ran, run, save,
+    settle, split, state, text_of, told, touch, users, value, why,
 )
 from rerun.books import answers
 
 EACH_CALL = [
     put("a", "1"), put("b", "22", ["a", "c"]), put("c", "", ["a"]), find("b"), state(1), ask_next(),
     settle(5), ask_next(), came("v"), failed(3), touch("a"), drop("c"), settle(0), put("A"), failed(1),
+    value(0), text_of(1), leans_of(1), users(0), why(1), counts(), save(),
+    load(book(cell(5, "a", "1", ["q"], 3), cell(7, "z", "", [], 1, 0, ran(value="zz")))), load([76, 87, 75, 49, 1, 0]),
+    value(7), text_of(5), leans_of(5), users(5), why(5), counts(), save(), load(book(many=1)), load(book() + [0]),
 ]
 
 
@@ -56,6 +60,8 @@ class Interface(unittest.TestCase):
         self.assertEqual(answers(calls), first)
         self.assertEqual(last(find("a")), [-4])
         self.assertEqual(last(came("1")), [-8])
+        self.assertEqual(last(counts()), [0, 0, 0, 0, 0, 0, 0])
+        self.assertEqual(last(save()), [0] + book())
 
     def test_what_is_given_back_is_new_each_time(self):
         calls = sum(EACH_CALL, [])
@@ -78,6 +84,11 @@ class Interface(unittest.TestCase):
             told(1, 1, [(0, GOOD)], ("c", "", ["v"])),
             told(0, 2, [(2, 2), (1, STUCK)]),
             [0], [2], told(2, 0), [-1], [-8],
+            [-4], [0, 50, 50], [0, 1, 97, 1, 99], [1, 1], [0, 0, 0], [0, 2, 2, 0, 0, 0, 2],
+            [0] + book(cell(0, "a", "1", [], 0, 1, ran("1", value="v")), cell(1, "b", "22", ["a", "c"])),
+            [0], [-2],
+            [0, 122, 122], [0, 49], [0, 1, 113], [0], [1, 0, 0], [0, 2, 0, 1, 0, 1, 0],
+            [0] + book(cell(5, "a", "1", ["q"], 3), cell(7, "z", "", [], 1, 0, ran(value="zz"))), [-2], [-2],
         ])
 
     def test_zero_bytes_in_texts_and_values(self):
@@ -101,3 +112,22 @@ class Interface(unittest.TestCase):
         finally:
             sys.setrecursionlimit(limit)
         self.assertEqual(split(out)[-1], told(0, 0, [(place, STUCK) for place in range(138, -1, -1)]))
+
+    def test_long_chains_in_loaded_books_need_no_deep_calls(self):
+        names = [f"n{number}" for number in range(256)]
+        good = [cell(place, name, "", names[place + 1:place + 2], GOOD, 0,
+                     ran("", names[place + 1:place + 2], ["v"] * len(names[place + 1:place + 2]), "v"))
+                for place, name in enumerate(names)]
+        ring = [cell(place, name, "", [names[place - 1]], STUCK) for place, name in enumerate(names)]
+        chain = [cell(place, name, "", (names + ["gone"])[place + 1:place + 2], STUCK) for place, name in enumerate(names)]
+        calls = [load(book(*good)), save(), drop("n255"), settle(0), why(0), load(book(*ring)), why(0),
+                 load(book(*chain)), why(0), why(255), users(0), counts(), save()]
+        limit = sys.getrecursionlimit()
+        sys.setrecursionlimit(depth() + 40)
+        try:
+            out = split(answers(sum(calls, [])))
+        finally:
+            sys.setrecursionlimit(limit)
+        self.assertEqual(out[1], [0] + book(*good))
+        self.assertEqual(out[4:], [[2, 0, 1], [0], [3, 0, 255], [0], [2, 0, 1], [1, 0, 0], [0],
+                                   [0, 256, 0, 0, 0, 256, 0], [0] + book(*chain)])

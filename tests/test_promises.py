@@ -1,10 +1,11 @@
-"""B1, B2, B3, B4 (who is stuck) and B6, over many books that are made by a written rule."""
+"""B1 to B6 over many books, loaded ones too, that are made by a written rule."""
 
 import itertools
 import unittest
 
 from helper import (
-    BAD, GOOD, OPEN, STUCK, Line, Settled, Told, ask_next, came, drop, last, put, run, settle, state, told, touch, work,
+    BAD, GOOD, OPEN, STUCK, Line, Settled, Told, ask_next, book, came, cell, counts, drop, find, is_book, last, leans_of,
+    load, put, ran, reached, read_cells, run, save, settle, state, text_of, told, touch, users, value, why, work,
 )
 
 NAMES = ["a", "b", "c", "d", "e", "f", "g"]
@@ -52,6 +53,12 @@ class Notebook:
         other.cells, other.places = dict(self.cells), list(self.places)
         return other
 
+    def reload(self, anew):
+        """Saves and loads the book, into a new one or into itself."""
+        written = self.line.look(save())[0][1:]
+        self.line = Line(() if anew else self.line.calls)
+        self.line.say(load(written))
+
     def in_order(self):
         return [name for name in self.places if name is not None]
 
@@ -68,13 +75,9 @@ class Notebook:
         return {name: (answer[0], answer[5], answer[6]) for name, answer in zip(names, out)}
 
     def values(self):
-        """By name, the values of the good cells of a settled book: another cell that leans on them is asked for."""
-        good = [name for name, (stand, size, number) in self.stands().items() if stand == GOOD]
-        calls = []
-        for count, name in enumerate(good):
-            calls += [put("probe", [count], [name]), settle(1), came("")]
-        out = self.line.look(*calls)
-        return {name: Told(out[3 * count + 1]).values for count, name in enumerate(good)}
+        """By name, what value answers."""
+        names = self.in_order()
+        return dict(zip(names, self.line.look(*[value(self.places.index(name)) for name in names])))
 
     def picture(self):
         return self.stands(), self.values()
@@ -96,14 +99,40 @@ def change(notebook, rule):
     return name, None
 
 
+def last_run_by_rule(rule):
+    """A last run that no call need ever have asked for, with what would have come of it."""
+    text, leans = rule.one_of(TEXTS), [rule.one_of(LEANS) for count in range(rule.pick(3))]
+    values = [rule.one_of([b"", b"k", b"1()", bytes([0])]) for lean in leans]
+    if rule.pick(3) == 0:
+        return [0]
+    call = work(text.encode(), values)
+    if call[1] == 2:
+        return ran(text, leans, values, number=call[3])
+    return ran(text, leans, values, call[5:])
+
+
+def written_by_rule(rule):
+    """A book of open cells with any last runs, touched or not, loaded from bytes that no save gave."""
+    notebook, cells = Notebook(), []
+    for place, name in enumerate(NAMES):
+        if rule.pick(4):
+            text, leans = rule.one_of(TEXTS), [rule.one_of(LEANS) for count in range(rule.pick(3))]
+            cells.append(cell(place, name, text, leans, OPEN, rule.pick(4) == 0, last_run_by_rule(rule)))
+            notebook.cells[name], notebook.places[place] = (text, tuple(leans)), name
+    notebook.line.say(load(book(*cells)))
+    return notebook
+
+
 def made_by_rule(first):
     """A book after some changes, with settlings of a few runs between, not settled at the end."""
     rule = Rule(first)
-    notebook = Notebook()
+    notebook = written_by_rule(rule) if first % 3 == 2 else Notebook()
     for count in range(4 + rule.pick(16)):
         change(notebook, rule)
         if rule.pick(3) == 0:
             some_runs(notebook.line, rule.pick(4))
+        if rule.pick(8) == 0:
+            notebook.reload(rule.pick(2))
     return notebook
 
 
@@ -113,20 +142,41 @@ def some_runs(line, most):
         answer = Told(line.ask(work(answer.text, answer.values)))
 
 
-def reached(cells, name):
-    """All names to which a chain of leaning leads from a cell, at least one step long."""
-    out, left = set(), [name]
-    while left:
-        for lean in cells.get(left.pop(), (None, ()))[1]:
-            if lean not in out:
-                out.add(lean)
-                left.append(lean)
-    return out
-
-
 def is_stuck(cells, stands, name):
     ahead = reached(cells, name)
     return any(lean not in cells or stands[lean][0] == BAD or lean in reached(cells, lean) for lean in ahead)
+
+
+def not_by_rings_alone(cells, stands):
+    """The stuck cells that are so, by the document's words, as often gone over as something comes to it."""
+    out, before = set(), None
+    while before != len(out):
+        before = len(out)
+        for name in cells:
+            if stands[name][0] == STUCK and any(
+                    lean not in cells or stands[lean][0] == BAD or lean in out for lean in cells[name][1]):
+                out.add(name)
+    return out
+
+
+def why_by_the_words(notebook, stands, spoiled, name):
+    leans = notebook.cells[name][1]
+    if stands[name][0] != STUCK:
+        return [0, 0, 0]
+    for number, lean in enumerate(leans):
+        if lean not in notebook.cells:
+            return [1, number, 0]
+    for number, lean in enumerate(leans):
+        if stands[lean][0] == BAD or lean in spoiled:
+            return [2, number, notebook.places.index(lean)]
+    for number, lean in enumerate(leans):
+        if stands[lean][0] == STUCK:
+            return [3, number, notebook.places.index(lean)]
+
+
+# All that can be asked of a book of the rule's, but for the runs.
+ASK = [ask_next(), save()] + [find(name) for name in LEANS]
+ASK += [ask(place) for place in range(len(NAMES) + 1) for ask in (state, value, text_of, leans_of, users, why)]
 
 
 class Promises(unittest.TestCase):
@@ -162,6 +212,8 @@ class Promises(unittest.TestCase):
         for first in range(MANY):
             rule, notebook, known, touched = Rule(first), Notebook(), {}, set()
             for count in range(12):
+                if rule.pick(5) == 0:
+                    notebook.reload(rule.pick(2))
                 now_touched, dropped = change(notebook, rule)
                 touched.add(now_touched)
                 touched.discard(dropped)
@@ -207,6 +259,92 @@ class Promises(unittest.TestCase):
                 expected = is_stuck(notebook.cells, stands, name)
                 self.assertEqual(stands[name][0] == STUCK, expected, (first, name))
                 self.assertNotEqual(stands[name][0], OPEN)
+
+    def test_b4_why(self):
+        seen = set()
+        for first in range(MANY):
+            notebook = made_by_rule(first)
+            for settled in (False, True):
+                if settled:
+                    Settled(notebook.line, [256])
+                stands, names = notebook.stands(), notebook.in_order()
+                spoiled = not_by_rings_alone(notebook.cells, stands)
+                expected = [why_by_the_words(notebook, stands, spoiled, name) for name in names]
+                self.assertEqual(notebook.line.look(*[why(notebook.places.index(name)) for name in names]), expected)
+                seen.update((settled, answer[0]) for answer in expected)
+        self.assertEqual(len(seen), 8)
+
+    def test_b4_why_is_3_just_where_rings_alone_are_so(self):
+        for first in range(MANY):
+            notebook = made_by_rule(first)
+            Settled(notebook.line, [256])
+            stands = notebook.stands()
+            for name in notebook.in_order():
+                ahead = reached(notebook.cells, name)
+                others = any(lean not in notebook.cells or stands[lean][0] == BAD for lean in ahead)
+                rings = any(lean in reached(notebook.cells, lean) for lean in ahead)
+                answer = notebook.line.look(why(notebook.places.index(name)))[0][0]
+                self.assertEqual(answer == 3, rings and not others, (first, name))
+
+    def test_b5_saved_and_loaded_between_two_calls(self):
+        points = waiting = 0
+        for first in range(0, MANY, 4):
+            calls = made_by_rule(first).line.calls + [settle(2), came("1"), came("2"), settle(9), came("3")]
+            whole = run(*calls)
+            for cut in range(len(calls) + 1):
+                before, behind = calls[:cut], calls[cut:]
+                written = run(*before, save())[-1][1:]
+                self.assertTrue(is_book(written))
+                if cut and calls[cut - 1][0] in (4, 5) and whole[cut - 1][0] == 1:
+                    self.assertEqual(run(*before, load(written), *behind)[cut:], [[-8]] + whole[cut:])
+                    waiting += 1
+                    continue
+                for into in ([], before):
+                    out = run(*into, load(written), *ASK, *behind, *ASK)[len(into):]
+                    self.assertEqual(out, [[0]] + run(*before, *ASK, *behind, *ASK)[cut:], (first, cut))
+                points += 1
+        self.assertGreater(points, MANY)
+        self.assertGreater(waiting, MANY // 4)
+
+    def test_b5_runs_are_0(self):
+        for first in range(0, MANY, 4):
+            notebook = made_by_rule(first)
+            Settled(notebook.line, [256])
+            before = notebook.line.look(counts())[0]
+            notebook.reload(False)
+            self.assertEqual(notebook.line.look(counts())[0], before[:-1] + [0])
+
+    def test_b5_saved_while_it_waits(self):
+        points = 0
+        for first in range(MANY):
+            line = made_by_rule(first).line
+            written = line.look(settle(0), save())[1]
+            waits = line.look(settle(256), *ASK)
+            if waits[0][0] != 1:
+                continue
+            self.assertEqual(waits[2], written)
+            loaded = Line([load(written[1:])])
+            self.assertEqual(loaded.look(*ASK), waits[1:])
+            asked, again = Told(waits[0]), Told(loaded.look(settle(256))[0])
+            self.assertEqual((again.answer, again.made, again.looked), (1, 0, []))
+            self.assertEqual((again.name, again.text, again.values), (asked.name, asked.text, asked.values))
+            line.say(settle(256))
+            loaded.say(settle(256))
+            answer = work(asked.text, asked.values)
+            self.assertEqual(line.ask(answer), loaded.ask(answer))
+            self.assertEqual(line.look(*ASK), loaded.look(*ASK))
+            points += 1
+        self.assertGreater(points, MANY // 4)
+
+    def test_b5_what_is_saved_tells_the_cells(self):
+        for first in range(MANY):
+            notebook = made_by_rule(first)
+            cells = read_cells(notebook.line.look(save())[0][1:])
+            self.assertEqual([(one["name"].decode(), one["text"].decode(), [lean.decode() for lean in one["leans"]])
+                              for one in cells],
+                             [(name, notebook.cells[name][0], list(notebook.cells[name][1]))
+                              for name in notebook.in_order()])
+            self.assertEqual([one["stands"] for one in cells], [stand[0] for stand in notebook.stands().values()])
 
     def test_b6_settling_ends(self):
         for first in range(MANY):

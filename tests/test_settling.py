@@ -3,11 +3,9 @@
 import unittest
 
 from helper import (
-    BAD, GOOD, OPEN, STUCK, TOP_NUMBER, ask_next, came, drop, failed, last, put, run, settle, state, told, touch,
+    BAD, GOOD, OPEN, STUCK, TOP_NUMBER, ask_next, came, counts, drop, failed, last, put, run, settle, state, told,
+    touch,
 )
-from rerun.books import answer_call
-from rerun.calls import read_call
-from rerun.cells import Book
 
 TWO = [put("a", "1"), put("b", "2", ["a"])]
 TWO_GOOD = TWO + [settle(2), came("A"), came("B")]
@@ -255,10 +253,7 @@ class Next(unittest.TestCase):
 
 class RunsCounted(unittest.TestCase):
     def counted(self, *calls):
-        book = Book()
-        for call in calls:
-            answer_call(book, read_call(call, 0))
-        return book.runs
+        return last(*calls, counts())[-1]
 
     def test_new_book(self):
         self.assertEqual(self.counted(), 0)
