@@ -34,12 +34,12 @@ class Loading(unittest.TestCase):
         self.assertTrue(is_book(written))
         self.assertEqual(run(load(written), save()), [[0], [0] + list(written)])
 
-    def refuse(self, written, before=BEFORE):
+    def refuse(self, written):
         self.assertFalse(is_book(written))
         self.assertEqual(run(load(written), save()), [[-2], [0] + EMPTY])
-        out = run(*before, load(written), *GO_ON)
-        self.assertEqual(out.pop(len(before)), [-2])
-        self.assertEqual(out, run(*before, *GO_ON))
+        out = run(*BEFORE, load(written), *GO_ON)
+        self.assertEqual(out.pop(len(BEFORE)), [-2])
+        self.assertEqual(out, run(*BEFORE, *GO_ON))
 
 
 class WhatSaveGave(Loading):
@@ -205,8 +205,6 @@ class WrongForm(Loading):
 
     def test_cut_short_at_every_place(self):
         for end in range(len(BOOK)):
-            self.refuse(BOOK[:end], [])
-        for end in (0, 4, 5, 6, 7, 40, len(BOOK) - 1):
             self.refuse(BOOK[:end])
 
     def test_bytes_behind_the_end(self):
@@ -259,18 +257,18 @@ class WrongForm(Loading):
 
     def test_lengths_of_texts(self):
         for size in (65537, 65538):
-            self.refuse(book(cell(0, "a", [1] * size)), [])
-            self.refuse(book(cell(0, "a", "", [], OPEN, 0, ran([1] * size))), [])
+            self.refuse(book(cell(0, "a", [1] * size)))
+            self.refuse(book(cell(0, "a", "", [], OPEN, 0, ran([1] * size))))
         for length in (65537, 2 ** 24, 2 ** 31, TOP_NUMBER):
             self.refuse(EMPTY[:4] + [1, 0, 0, 1, 97] + low_first(length, 4) + [0] * 50)
             self.refuse(EMPTY[:4] + [1, 0, 0, 1, 97, 0, 0, 0, 0, 0, 0, 0, 1] + low_first(length, 4) + [0] * 50)
 
     def test_lengths_of_values(self):
         for size in (16385, 16386, 20000):
-            self.refuse(book(cell(0, "a", "", [], OPEN, 0, ran("", ["b"], [[1] * size]))), [])
-            self.refuse(book(cell(0, "a", "", [], OPEN, 0, ran("", ["b", "c"], ["", [1] * size]))), [])
-            self.refuse(book(cell(0, "a", "", [], OPEN, 0, ran(value=[1] * size))), [])
-            self.refuse(book(cell(0, "a", "", [], GOOD, 0, ran(value=[1] * size))), [])
+            self.refuse(book(cell(0, "a", "", [], OPEN, 0, ran("", ["b"], [[1] * size]))))
+            self.refuse(book(cell(0, "a", "", [], OPEN, 0, ran("", ["b", "c"], ["", [1] * size]))))
+            self.refuse(book(cell(0, "a", "", [], OPEN, 0, ran(value=[1] * size))))
+            self.refuse(book(cell(0, "a", "", [], GOOD, 0, ran(value=[1] * size))))
         for length in (16385, 2 ** 24, TOP_NUMBER):
             start = EMPTY[:4] + [1, 0, 0, 1, 97, 0, 0, 0, 0, 0, 0, 0, 1, 0, 0, 0, 0]
             self.refuse(start + [0, 0] + low_first(length, 4) + [0] * 50)
